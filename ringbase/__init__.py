@@ -1,0 +1,1 @@
+"""Ringbase: least rings of which all rings are sums."""

@@ -1,0 +1,86 @@
+"""Webs for the tests, and slow answers found straight from the document's words."""
+
+BIG = 10 ** 30
+
+TRIANGLE = (3, ((0, 1, 2), (1, 2, 3), (2, 0, 4)))
+TWINS = (2, ((0, 1, 1), (1, 0, BIG), (0, 1, 7)))
+LONE = (1, ())
+LOOSE = (10, ())
+TREE = (4, ((3, 1, 1), (1, 0, 2), (2, 1, 3)))
+# Two pieces with a ring each, and the lone point 3 between them by number.
+APART = (7, ((4, 6, 1), (0, 2, 2), (5, 4, 3), (2, 1, 4), (6, 5, 5), (1, 0, 6), (0, 1, 7)))
+SQUARE = (4, ((2, 3, 5), (0, 1, 1), (3, 0, 2), (1, 2, 2), (0, 2, 9), (3, 1, 9)))
+BUNCH = (2, tuple((k % 2, 1 - k % 2, k + 1) for k in range(24)))
+# A ring through all points, and behind it ties that join points two and three apart.
+FULL = (10, tuple((k % 10, (k + 1 + k // 10) % 10, BIG) for k in range(24)))
+
+
+def drawn_webs(many, most_points, most_ties):
+    """Webs by a plain row of numbers, the same at each run."""
+    state = 12345
+    webs = []
+    for _ in range(many):
+        draws = []
+        for _ in range(2 + 3 * most_ties):
+            state = (state * 1103515245 + 12345) % 2 ** 31
+            draws.append(state >> 8)
+        points = 2 + draws[0] % (most_points - 1)
+        ties = []
+        for k in range(draws[1] % (most_ties + 1)):
+            one, step, length = draws[2 + 3 * k: 5 + 3 * k]
+            one %= points
+            ties.append((one, (one + 1 + step % (points - 1)) % points, 1 + length % 9))
+        webs.append((points, tuple(ties)))
+    return webs
+
+
+NAMED = [TRIANGLE, TWINS, LONE, LOOSE, TREE, APART, SQUARE]
+# Few enough ties for all sets to be gone through.
+SMALL = NAMED + drawn_webs(40, 6, 8)
+ALL = SMALL + [BUNCH, FULL] + drawn_webs(20, 10, 24)
+
+
+def slow_ties(number):
+    return [k for k, sign in enumerate(reversed(bin(number)[2:])) if sign == "1"]
+
+
+def slow_odd(web, ties):
+    return [p for p in range(web[0]) if sum((web[1][k][:2]).count(p) for k in ties) % 2]
+
+
+def slow_reach(web, ties, start):
+    reached = {start}
+    while True:
+        more = {p for k in ties for p in web[1][k][:2] if reached & set(web[1][k][:2])}
+        if more <= reached:
+            return sorted(reached)
+        reached |= more
+
+
+def slow_pieces(web, ties):
+    return sorted({tuple(slow_reach(web, ties, p)) for p in range(web[0])})
+
+
+def slow_forest(web):
+    taken = []
+    for k, (one, other, _) in enumerate(web[1]):
+        if other not in slow_reach(web, taken, one):
+            taken.append(k)
+    return taken
+
+
+def slow_evens(web):
+    """All even sets, by looking at every set."""
+    return [s for s in range(2 ** len(web[1])) if not slow_odd(web, slow_ties(s))]
+
+
+def added(sets):
+    total = 0
+    for one in sets:
+        total ^= one
+    return total
+
+
+def wrong_sets(web):
+    many = len(web[1])
+    return [-1, -2, -10 ** 59, 2 ** many, 2 ** many + 1, 2 ** (many + 1), 2 ** (many + 40), 10 ** 60 - 1]
