@@ -54,8 +54,13 @@ def all_ties(web):
     return (1 << len(web[1])) - 1
 
 
+def is_set(web, number):
+    """Whether a number is a set of the web's ties."""
+    return number >= 0 and number <= all_ties(web)
+
+
 def check_set(web, tie_set):
-    if tie_set < 0 or tie_set > all_ties(web):
+    if not is_set(web, tie_set):
         raise BadSet("the number is no set of ties of the web")
 
 

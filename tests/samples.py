@@ -14,6 +14,10 @@ BUNCH = (2, tuple((k % 2, 1 - k % 2, k + 1) for k in range(24)))
 # A ring through all points, and behind it ties that join points two and three apart.
 FULL = (10, tuple((k % 10, (k + 1 + k // 10) % 10, BIG) for k in range(24)))
 
+# Two rings of three ties that touch at the point 2, and two of two ties that touch at the point 1.
+TOUCHING = (5, ((0, 1, 1), (1, 2, 2), (2, 0, 3), (2, 3, 4), (4, 3, 5), (4, 2, 6)))
+PAIRS = (3, ((1, 0, 3), (1, 2, 5), (0, 1, 4), (2, 1, BIG)))
+
 
 def drawn_webs(many, most_points, most_ties):
     """Webs by a plain row of numbers, the same at each run."""
@@ -34,7 +38,7 @@ def drawn_webs(many, most_points, most_ties):
     return webs
 
 
-NAMED = [TRIANGLE, TWINS, LONE, LOOSE, TREE, APART, SQUARE]
+NAMED = [TRIANGLE, TWINS, LONE, LOOSE, TREE, APART, SQUARE, TOUCHING, PAIRS]
 # Few enough ties for all sets to be gone through.
 SMALL = NAMED + drawn_webs(40, 6, 8)
 ALL = SMALL + [BUNCH, FULL] + drawn_webs(20, 10, 24)
@@ -72,6 +76,50 @@ def slow_forest(web):
 def slow_evens(web):
     """All even sets, by looking at every set."""
     return [s for s in range(2 ** len(web[1])) if not slow_odd(web, slow_ties(s))]
+
+
+def slow_rings(web):
+    """All rings: even sets, not empty, within which no other lies but the empty one."""
+    evens = [even for even in slow_evens(web) if even]
+    return [ring for ring in evens if not any(even & ring == even for even in evens if even != ring)]
+
+
+def slow_length(web, tie_set):
+    return sum(web[1][k][2] for k in slow_ties(tie_set))
+
+
+def slow_common(one, other):
+    return bin(one & other).count("1")
+
+
+def slow_cut(web, side):
+    return sum(2 ** k for k, tie in enumerate(web[1]) if len({tie[0], tie[1]} & set(side)) == 1)
+
+
+def all_sides(web):
+    return [[p for p in range(web[0]) if number >> p & 1] for number in range(2 ** web[0])]
+
+
+def some_sets(web):
+    """Sets of none, some and all ties."""
+    last = 2 ** len(web[1]) - 1
+    return sorted({0, last, last // 3, last // 2, last * 5 // 7, last & 0b100101101})
+
+
+def slow_worths(web, marks, start):
+    """Least lengths of ways, by rounds over the ties until nothing falls any more."""
+    least = {(start, 0): 0}
+    fell = True
+    while fell:
+        fell = False
+        for k, (one, other, length) in enumerate(web[1]):
+            for part in (0, 1):
+                for a, b in ((one, other), (other, one)):
+                    there = (b, part ^ (marks >> k & 1))
+                    if (a, part) in least and least.get(there, least[a, part] + length + 1) > least[a, part] + length:
+                        least[there] = least[a, part] + length
+                        fell = True
+    return tuple((least.get((p, 0)), least.get((p, 1))) for p in range(web[0]))
 
 
 def added(sets):

@@ -108,6 +108,79 @@ def name_faults(tree, own_methods):
                 yield "L25: " + node.func.attr
 
 
+WALKED = ("zip", "enumerate", "reversed", "range", "items", "keys", "values")
+WALKERS = ("list", "tuple", "dict", "sorted", "sum", "any", "all", "enumerate", "zip")
+KEYWORDS = {"sorted": ("key", "reverse"), "min": ("key", "default"), "max": ("key", "default"), "sum": ("start",),
+            "enumerate": ("start",), "zip": ("strict",)}
+
+
+def called(node):
+    """What a call calls: a name, or the name of a method; None for other things."""
+    if not isinstance(node, ast.Call):
+        return None
+    return getattr(node.func, "id", getattr(node.func, "attr", None))
+
+
+def walked_on_the_spot(node, above):
+    if isinstance(above, (ast.For, ast.comprehension)):
+        return above.iter is node
+    if called(above) in ("min", "max", "join"):
+        return len(above.args) == 1
+    return called(above) in WALKERS and node in above.args
+
+
+def call_faults(tree):
+    own = list(bound_names(tree))
+    for above in ast.walk(tree):
+        for node in ast.iter_child_nodes(above):
+            name = called(node)
+            if name in WALKED and not walked_on_the_spot(node, above):
+                yield "L23: kept, not walked: " + ast.unparse(node)
+            if name in ("set", "frozenset") or isinstance(node, ast.Set):
+                yield "L24: a set: " + ast.unparse(node)
+            if isinstance(node, ast.Call) and isinstance(node.func, ast.Name) and name not in own:
+                for keyword in node.keywords:
+                    if keyword.arg not in KEYWORDS.get(name, ()):
+                        yield f"L22: {keyword.arg} at {name}"
+            if isinstance(node, ast.Name) and node.id in OWN_NAMES and node.id not in own and name is None:
+                if not (isinstance(above, (ast.ClassDef, ast.ExceptHandler)) or node is getattr(above, "func", None)
+                        or called(above) == "isinstance" or isinstance(above, ast.keyword)):
+                    yield "L22: kept as a value: " + node.id
+
+
+def handler_faults(tree):
+    drawn = [name.name for row in tree.body if isinstance(row, ast.ImportFrom) for name in row.names]
+    for node in ast.walk(tree):
+        if isinstance(node, ast.ExceptHandler):
+            if not isinstance(node.type, ast.Name) or node.type.id not in drawn + ["KeyError", "ZeroDivisionError"]:
+                yield "L19: " + ast.unparse(node)
+        if isinstance(node, ast.Raise) and not isinstance(node.exc, ast.Call):
+            yield "L19: " + ast.unparse(node)
+        if isinstance(node, ast.Assign) and not isinstance(node.targets[0], (ast.Name, ast.Attribute, ast.Subscript)):
+            yield "L6: several names in an assignment: " + ast.unparse(node)
+
+
+UNUSED_VALUES = set(dir(str) + dir(int) + dir(list) + dir(dict) + dir(set) + dir(bytes) + ["args"])
+
+
+def class_faults(trees):
+    """L18 and L26, which look at all classes of the package at once."""
+    methods, values = set(), set()
+    for tree in trees:
+        for row in tree.body:
+            if isinstance(row, ast.ClassDef):
+                methods |= {part.name for part in row.body if isinstance(part, ast.FunctionDef)} - set(DUNDERS)
+                values |= {node.attr for node in ast.walk(row)
+                           if isinstance(node, ast.Attribute) and isinstance(node.ctx, ast.Store)}
+                for part in row.body:
+                    if not isinstance(part, (ast.FunctionDef, ast.Expr, ast.Pass)):
+                        yield "L5: a value in the class body: " + ast.unparse(part)
+    for name in sorted(methods & values):
+        yield "L18: a method and a value: " + name
+    for name in sorted((methods | values) & UNUSED_VALUES):
+        yield "L26: " + name
+
+
 def local_faults(tree):
     taken = [name.name for row in tree.body if isinstance(row, ast.ImportFrom) for name in row.names]
     taken += [row.name for row in tree.body if isinstance(row, ast.ClassDef)]
@@ -154,6 +227,7 @@ def faults(text, module="webs", own_methods=()):
     tree = ast.parse(text)
     found = list(text_faults(text)) + list(top_faults(tree, module))
     found += list(name_faults(tree, own_methods)) + list(local_faults(tree))
+    found += list(call_faults(tree)) + list(handler_faults(tree))
     for node in ast.walk(tree):
         if node_fault(node):
             found.append(f"{node_fault(node)} in row {getattr(node, 'lineno', 0)}")
@@ -183,6 +257,12 @@ class Language(unittest.TestCase):
             with self.subTest(name):
                 self.assertEqual(faults(text, name[:-3], methods), [])
 
+    def test_the_classes_of_the_package(self):
+        self.assertEqual(list(class_faults([ast.parse(text_of(name)) for name in package_files()])), [])
+        twice = "class A:\n    def put(self):\n        pass\nclass B:\n    def f(self):\n        self.put = 1"
+        for text in (twice, "class A:\n    x = 1", "class A:\n    def f(self):\n        self.keys = 1"):
+            self.assertNotEqual(list(class_faults([ast.parse(text)])), [])
+
     def test_the_reading_itself_finds_faults(self):
         wrong = ["import os", "from ringbase.evens import chords", "from ringbase.errors import *", "A = 10 ** 30",
                  "A = 1\nA = 2", "A = 0.5", "def f(*xs):\n    pass", "def f(n):\n    return 2 ** n",
@@ -190,7 +270,11 @@ class Language(unittest.TestCase):
                  "def f(x):\n    return x / 2", "def f(x):\n    assert x", "def f(_x):\n    return 1",
                  "def f(x):\n    return x is 3", "def f(x):\n    a = b = x", "# the type of it", "# \t",
                  "def f(x):\n    return {y for y in x}", "def f(x):\n    return sum(y for y in x)",
-                 "from ringbase.errors import BadSet\ndef f(BadSet):\n    pass", "A = 'a%'", "# " + "x" * 120]
+                 "from ringbase.errors import BadSet\ndef f(BadSet):\n    pass", "A = 'a%'", "# " + "x" * 120,
+                 "def f(x):\n    y = zip(x, x)", "def f(x):\n    return x.items()", "def f(x):\n    return set(x)",
+                 "def f(x):\n    return len(obj=x)", "def f(x):\n    y = len", "def f(x):\n    y, z = x",
+                 "def f(x):\n    try:\n        x()\n    except ValueError:\n        pass",
+                 "def f(x):\n    raise ValueError"]
         for text in wrong:
             with self.subTest(text):
                 self.assertNotEqual(faults(text), [])

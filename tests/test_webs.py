@@ -5,12 +5,7 @@ from ringbase.errors import BadSet, BadWeb
 from ringbase.webs import all_ties, length_of, made_web, odd_points, pieces, rank, set_of, ties_in
 from tests import samples
 from tests.refusing import Refusing
-from tests.samples import BIG
-
-
-def some_sets(web):
-    last = 2 ** len(web[1]) - 1
-    return sorted({0, last, last // 3, last // 2, last * 5 // 7, last & 0b100101101})
+from tests.samples import BIG, some_sets
 
 
 class MadeWeb(Refusing):
