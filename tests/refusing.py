@@ -48,7 +48,7 @@ class Refusing(unittest.TestCase):
 
     def own(self, asked, *handed):
         """What is told, once it was seen that neither side of the asking holds on to the other."""
-        kept = copy.deepcopy(handed)
+        kept, handed = handed, copy.deepcopy(handed)
         told = asked(*handed)
         first = copy.deepcopy(told)
         self.assertEqual(handed, kept)

@@ -44,6 +44,10 @@ SMALL = NAMED + drawn_webs(40, 6, 8)
 ALL = SMALL + [BUNCH, FULL] + drawn_webs(20, 10, 24)
 
 
+# The same webs with ties of one length, so that many rings are as long as one another.
+LEVEL = [(web[0], tuple((one, other, 1) for one, other, length in web[1])) for web in SMALL]
+
+
 def slow_ties(number):
     return [k for k, sign in enumerate(reversed(bin(number)[2:])) if sign == "1"]
 
@@ -120,6 +124,90 @@ def slow_worths(web, marks, start):
                         least[there] = least[a, part] + length
                         fell = True
     return tuple((least.get((p, 0)), least.get((p, 1))) for p in range(web[0]))
+
+
+def slow_order(web, rings):
+    return sorted(rings, key=lambda ring: (slow_length(web, ring), ring))
+
+
+def slow_sums(sets):
+    """Every sum of some of the sets, one for each choice of them."""
+    sums = [0]
+    for one in sets:
+        sums += [one ^ other for other in sums]
+    return sums
+
+
+def slow_first_base(web):
+    taken = []
+    for ring in slow_order(web, slow_rings(web)):
+        if ring not in slow_sums(taken):
+            taken.append(ring)
+    return taken
+
+
+def slow_stand(web, marks, worths):
+    """Whether worths stand for marks, by the document's words."""
+    for v in range(web[0]):
+        if worths[v][v][0] != 0:
+            return False
+        for k, (a, b, length) in enumerate(web[1]):
+            for s in (0, 1):
+                one, other = worths[v][a][s], worths[v][b][1 - s if marks >> k & 1 else s]
+                if (one is None) != (other is None):
+                    return False
+                if one is not None and not -length <= one - other <= length:
+                    return False
+    return True
+
+
+def slow_odd_stands(web, marks, answer, rings):
+    """Whether an answer stands; rings are all rings of the web."""
+    if answer[0] == "side":
+        side = answer[1]
+        return side == sorted(set(side) & set(range(web[0]))) and slow_cut(web, side) == marks
+    ring, worths = answer[1:]
+    if ring not in rings or slow_common(ring, marks) % 2 == 0 or not slow_stand(web, marks, worths):
+        return False
+    owns = [worths[v][v][1] for v in range(web[0])]
+    return all(own is None or own >= slow_length(web, ring) for own in owns)
+
+
+def slow_told(web, base, rings):
+    """Whether a tuple of triples is a told base; rings are all rings of the web."""
+    owns = [ring for ring, marks, worths in base]
+    rank = len(web[1]) - web[0] + len(slow_pieces(web, range(len(web[1]))))
+    if len(owns) != rank or any(ring not in rings for ring in owns) or slow_sums(owns).count(0) != 1:
+        return False
+    if owns != slow_order(web, owns):
+        return False
+    for i, ring in enumerate(owns):
+        for j, (_, marks, _) in enumerate(base):
+            if not 0 <= marks < 2 ** len(web[1]) or slow_common(ring, marks) % 2 != (i == j):
+                return False
+    return all(slow_odd_stands(web, marks, ("ring", ring, worths), rings) for ring, marks, worths in base)
+
+
+def put_otherwise(value, path, new):
+    """A copy of nested tuples with one part put otherwise."""
+    if not path:
+        return new
+    inner = put_otherwise(value[path[0]], path[1:], new)
+    return value[:path[0]] + type(value)([inner]) + value[path[0] + 1:]
+
+
+def other_worths(worths):
+    """The worths with one number put otherwise, all those ways."""
+    for v, of_point in enumerate(worths):
+        for p, pair in enumerate(of_point):
+            for s, worth in enumerate(pair):
+                if worth is None:
+                    news = [0, 1, -1, 10 ** 59]
+                else:
+                    news = [None, worth + 1, worth - 1, -worth - 1, worth + 10 ** 31, 0]
+                for new in news:
+                    if new != worth:
+                        yield put_otherwise(worths, (v, p, s), new)
 
 
 def added(sets):
