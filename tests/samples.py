@@ -18,6 +18,10 @@ FULL = (10, tuple((k % 10, (k + 1 + k // 10) % 10, BIG) for k in range(24)))
 TOUCHING = (5, ((0, 1, 1), (1, 2, 2), (2, 0, 3), (2, 3, 4), (4, 3, 5), (4, 2, 6)))
 PAIRS = (3, ((1, 0, 3), (1, 2, 5), (0, 1, 4), (2, 1, BIG)))
 
+# Three points joined to three others, and a base of it whose worth is 3.
+CROSSED = (6, tuple((one, 3 + other, 1) for one in range(3) for other in range(3)))
+CROSSED_BASE = [238, 413, 245, 350]
+
 
 def drawn_webs(many, most_points, most_ties):
     """Webs by a plain row of numbers, the same at each run."""
@@ -136,6 +140,14 @@ def slow_sums(sets):
     for one in sets:
         sums += [one ^ other for other in sums]
     return sums
+
+
+def slow_span(sets):
+    """All sums of some of the sets, each once."""
+    span = {0}
+    for one in sets:
+        span |= {one ^ other for other in span}
+    return span
 
 
 def slow_first_base(web):
