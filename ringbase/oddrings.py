@@ -2,7 +2,7 @@
 
 from ringbase.cuts import bears_oddly, is_side_of, side_of
 from ringbase.oddways import least_ways, worths_of_ways
-from ringbase.rings import is_ring_number, parted
+from ringbase.rings import is_ring_number
 from ringbase.webs import check_set, has_tie, length_of
 
 
@@ -19,11 +19,6 @@ def worths_for(web, marks):
     return worths_of_all(all_least_ways(web, marks))
 
 
-def odd_ring_within(web, even, marks):
-    """A ring of an even set that bears the marks oddly, as the set itself does."""
-    return [ring for ring in parted(web, even) if bears_oddly(ring, marks)][0]
-
-
 def least_odd(web, marks):
     """A least ring with an odd number of marked ties, with the worths; or the side whose cut the marks are."""
     check_set(web, marks)
@@ -31,10 +26,10 @@ def least_odd(web, marks):
     rounds = [ways[point][point][1] for point in range(web[0]) if ways[point][point][1] is not None]
     if rounds == []:
         return side_of(web, marks)
-    # The ties of a round way, added, are an even set that bears the marks oddly. A ring
-    # of it that does so too is no longer than the way, and no odd ring is shorter than
-    # the least round way, since each ring is walked as such a way.
-    return ("ring", odd_ring_within(web, min(rounds)[1], marks), worths_of_all(ways))
+    # The ties of an odd round way, added, are an even set with an odd ring in it, no longer
+    # than the way. No odd ring is shorter than the least such way, since it is walked as one;
+    # so nothing is left beside the ring, and the sum is the ring.
+    return ("ring", min(rounds)[1], worths_of_all(ways))
 
 
 def near_enough(one, other, length):

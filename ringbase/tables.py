@@ -21,7 +21,7 @@ def row_cleared(row, lead_row, step, divisor):
 
 def determinant(table):
     """The determinant of a list of as many lists of so many whole numbers."""
-    rows = [list(row) for row in table]
+    rows = list(table)
     sign = 1
     divisor = 1
     for step in range(len(rows)):

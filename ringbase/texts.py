@@ -39,15 +39,15 @@ def numbers_read(words):
 
 
 def web_grown(web, words):
-    """The web with what a points row or a tie's row adds to it, None where the row can't stand there."""
+    """The web with the tie of a row, or of a first row's points where there is no web yet; None if the row is bad."""
     numbers = numbers_read(words[1:])
     if numbers is None:
         return None
     try:
-        if words[0] == "points" and web is None and len(numbers) == 1:
-            return made_web(numbers[0], [])
-        if words[0] == "tie" and web is not None:
+        if web is not None:
             return made_web(web[0], list(web[1]) + [numbers])
+        if words[0] == "points" and len(numbers) == 1:
+            return made_web(numbers[0], [])
     except BadWeb:
         return None
     return None
